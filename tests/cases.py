@@ -137,3 +137,69 @@ def ringed_lists():
             # A member ahead of the ring, and one behind it.
             yield size + 3, rules + [(0, size, 7), (size + 1, 0, 3), (size, -1, 99999)]
             yield size + 3, [(size + 2, size + 1, 0), (size + 1, size + 2, 0)] + rules + [(0, -1, 5)]
+
+
+def longer_chains(rules, chains):
+    """Each of these chains with each rule behind it that may stand there by point 7, in the order of their places."""
+    return [
+        chain + [place]
+        for chain in chains
+        for place, (on, base, more) in enumerate(rules)
+        if base >= 0 and base == rules[chain[-1]][0]
+    ]
+
+
+def search_chains(rules, member, width, most):
+    """All chains of the member that sum to the width and have the fewest rules, up to most; the first by turn is first.
+
+    Chains of one length are made in the order of their places from the beginning.
+    """
+    chains = [[place] for place in range(len(rules))]
+    for length in range(1, most + 1):
+        found = [
+            chain for chain in chains
+            if rules[chain[-1]][0] == member and sum(rules[place][2] for place in chain) == width
+        ]
+        if found:
+            return found
+        chains = longer_chains(rules, chains)
+    return []
+
+
+def tied_rule(dice, count, low):
+    on = dice.throw(count)
+    if dice.throw(3) == 0:
+        return (on, -1, 1 + dice.throw(2))
+    return (on, dice.throw(count), dice.throw(1 + low))
+
+
+def tied_lists():
+    """Lists without a ring in which many chains sum to the same: few members, many rules, low mores."""
+    dice = Dice(7)
+    for turn in range(600):
+        count = 3 + dice.throw(3)
+        rules = []
+        for part in range(5 + dice.throw(9)):
+            rule = tied_rule(dice, count, turn % 3)
+            if not has_ring(rules + [rule]):
+                rules.append(rule)
+        yield count, rules
+    for turn in range(200):
+        yield 6, storey_list(dice)
+
+
+def storey_list(dice):
+    """Two members on each of three storeys, and links from storey to storey: every way up sums to the same."""
+    rest = [(0, -1, 4), (1, -1, 4), (2, 0, 1), (2, 1, 1), (3, 0, 1), (3, 1, 1)]
+    rest += [(on + 2, base + 2, more) for on, base, more in rest[2:]]
+    rest += [rest[dice.throw(len(rest))], (5, 0, 2), (0, 1, 0)]
+    rules = []
+    while rest:
+        rule = rest.pop(dice.throw(len(rest)))
+        if dice.throw(5) > 0:
+            rules.append(rule)
+    return rules
+
+
+def without_ring(lists):
+    return [(count, rules) for count, rules in lists if not has_ring(rules)]
