@@ -122,6 +122,15 @@ class SyntaxTest(unittest.TestCase):
             self.assertEqual(node.finalbody, [], where)
         if isinstance(node, ast.Assign):
             self.assertEqual(len(node.targets), 1, where)
+            self.assertNotIsInstance(node.targets[0], (ast.Tuple, ast.List), where)
+        if isinstance(node, ast.FormattedValue):
+            self.assertIsInstance(node.value, ast.Name, where)
+            self.assertIsNone(node.format_spec, where)
+        if isinstance(node, ast.keyword):
+            self.assertIn(node.arg, ("key", "reverse", "default", "start", "strict"), where)
+        # Sets aren't used at all; where none is made, none is kept or walked.
+        self.assertNotIsInstance(node, ast.Set, where)
+        self.assertFalse(isinstance(node, ast.Name) and node.id in ("set", "frozenset"), where)
         if isinstance(node, ast.ListComp):
             self.assertEqual(len(node.generators), 1, where)
             self.assertLessEqual(len(node.generators[0].ifs), 1, where)
@@ -166,6 +175,61 @@ class SyntaxTest(unittest.TestCase):
             for node in ast.walk(tree):
                 if isinstance(node, (ast.FunctionDef, ast.ClassDef)) and node.name.startswith("_"):
                     self.assertIn(node.name, TWO_UNDERSCORES, name)
+
+
+class ObjectsTest(unittest.TestCase):
+    def methods_and_values(self):
+        methods, values = set(), set()
+        for name, tree in trees():
+            for node in ast.walk(tree):
+                if isinstance(node, ast.ClassDef):
+                    own = [part.name for part in node.body if isinstance(part, ast.FunctionDef)]
+                    self.assertEqual(len(own), len(set(own)), node.name)
+                    methods.update(own)
+                elif isinstance(node, ast.Attribute) and isinstance(node.ctx, ast.Store):
+                    self.assertEqual(ast.unparse(node.value), "self", name)
+                    values.add(node.attr)
+        return methods, values
+
+    def test_no_name_is_a_method_here_and_a_value_there(self):
+        methods, values = self.methods_and_values()
+        self.assertEqual(methods & values, set())
+        for name in (methods | values) - set(TWO_UNDERSCORES):
+            self.assertFalse(is_python_s_own_method(name), name)
+            self.assertFalse(hasattr(builtins, name), name)
+            self.assertNotIn(name, BANNED_NAMES)
+            self.assertRegex(name, r"\A[a-z][a-z0-9_]*\Z")
+
+    def test_no_local_is_called_like_an_import_or_a_class_of_its_file(self):
+        for name, tree in trees():
+            tops = {node.name for node in tree.body if isinstance(node, ast.ClassDef)}
+            for node in tree.body:
+                if isinstance(node, ast.ImportFrom):
+                    tops.update(part.asname or part.name for part in node.names)
+            self.assertEqual(tops & set(bound_names(tree)), set(), name)
+
+    def test_errors_are_the_program_s_own(self):
+        own = {node.name for name, tree in trees() if name == "errors.py" for node in tree.body
+               if isinstance(node, ast.ClassDef)}
+        for name, tree in trees():
+            for node in ast.walk(tree):
+                if isinstance(node, ast.ExceptHandler):
+                    self.assertIn(ast.unparse(node.type), own, f"{name}:{node.lineno}")
+                if isinstance(node, ast.Raise):
+                    self.assertIsInstance(node.exc, ast.Call, f"{name}:{node.lineno}")
+                    self.assertIn(ast.unparse(node.exc.func), own, f"{name}:{node.lineno}")
+
+    def test_what_is_walked_is_walked_at_once(self):
+        takers = ("list", "tuple", "dict", "sorted", "sum", "any", "all", "enumerate", "zip", "min", "max")
+        for name, tree in trees():
+            walked = [node.iter for node in ast.walk(tree) if isinstance(node, (ast.For, ast.comprehension))]
+            for node in ast.walk(tree):
+                if isinstance(node, ast.Call) and ast.unparse(node.func) in takers:
+                    walked.extend(node.args[:1])
+            for node in ast.walk(tree):
+                if isinstance(node, ast.Call) and isinstance(node.func, ast.Name):
+                    if node.func.id in ("zip", "enumerate", "reversed", "range"):
+                        self.assertTrue(any(node is other for other in walked), f"{name}:{node.lineno}")
 
 
 class TopTest(unittest.TestCase):

@@ -3,34 +3,12 @@
 import itertools
 import unittest
 
-from cases import Dice, chain_least, round_of, small_lists, thrown_lists, tied_lists, without_ring
+from cases import (
+    Dice, chain_least, round_of, search_slack, search_wide, small_lists, thrown_lists, thrown_tops, tied_lists,
+    ways_slack, without_ring,
+)
 from stairgauge.least import least_widths
 from stairgauge.slacks import first_wide, slack_of
-
-
-def search_wide(widths, tops):
-    """Point 8 word by word."""
-    places = [place for place in range(len(tops)) if tops[place] is not None and widths[place] > tops[place]]
-    return min(places) if places else None
-
-
-def search_slack(count, rules, tops, member):
-    """Point 9 word by word: s is tried from 0 on, until it is past all greatest widths."""
-    least = least_widths(count, rules)[member]
-    for s in range(max([top for top in tops if top is not None], default=0) + 1):
-        stop = search_wide(least_widths(count, rules + [(member, -1, least + s + 1)]), tops)
-        if stop is not None:
-            return (s, stop)
-    return None
-
-
-def thrown_tops(dice, widths, most):
-    """Greatest widths of which none is below its width: some None, some as wide as can be, some wider."""
-    tops = []
-    for width in widths:
-        choice = dice.throw(4)
-        tops.append(None if choice == 0 else width + (choice - 1) * dice.throw(most))
-    return tops
 
 
 class FirstWideTest(unittest.TestCase):
@@ -230,12 +208,12 @@ class SlackTest(unittest.TestCase):
         seen = {"none": 0, "itself": 0, "another": 0}
         for count, rules in itertools.chain(without_ring(thrown_lists()), tied_lists()):
             widths = chain_least(count, rules)
-            if max(widths) > 500:
-                continue
-            tops = thrown_tops(dice, widths, 30)
+            tops = thrown_tops(dice, widths, 30 if max(widths) < 500 else 99999)
             for member in range(count):
                 answer = slack_of(count, rules, tops, member)
-                self.assertEqual(answer, search_slack(count, rules, tops, member), (count, rules, tops, member))
+                self.assertEqual(answer, ways_slack(count, rules, tops, member), (count, rules, tops, member))
+                if max(widths) < 500:
+                    self.assertEqual(answer, search_slack(count, rules, tops, member), (count, rules, tops, member))
                 seen["none" if answer is None else "itself" if answer[1] == member else "another"] += 1
         self.assertGreater(min(seen.values()), 200)
 
